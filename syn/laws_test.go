@@ -161,8 +161,11 @@ func TestRandomTexts(t *testing.T) {
 			{api.Stmt{Kind: api.StParse, Word: "VALUE", Exprs: []api.Expr{x}}, "PARSE VALUE " + textOf(x, "WITH") + " WITH"},
 			{api.Stmt{Kind: api.StDo, Loop: api.LpCond, Test: 2, Cond: []api.Expr{x}}, "DO UNTIL " + textOf(x, words...)},
 			{api.Stmt{Kind: api.StDo, Loop: api.LpCount, Exprs: []api.Expr{x}}, "DO " + guarded(textOf(x, words...), text, "FOREVER")},
-			{api.Stmt{Kind: api.StCommand, Exprs: []api.Expr{x}}, guarded(text, text, "SAY", "THEN", "ELSE", "END")},
+			{api.Stmt{Kind: api.StCommand, Exprs: []api.Expr{x}}, guarded(text, text, "SAY", "THEN", "OTHERWISE", "END")},
 		} {
+			if c.s.Loop == api.LpCount && guarded(text, "") != text && slices.Contains(words, strings.Fields(text)[0]) { // see TestTextReadings
+				continue
+			}
 			if head, e := syn.Head(c.s); head != c.want || e != api.OK {
 				t.Fatalf("Head of %s: %q, error %v; want %q", form(c.s), head, e, c.want)
 			}

@@ -138,8 +138,6 @@ func TestParseBlocks(t *testing.T) {
 		{"if a then b else c", "{1:if exprs=A body={1:command exprs=((B   ELSE)   C)}}"},
 		{"if a then do; b; end; else if c then d; e", "{1:if exprs=A body={1:do body={1:command exprs=B}} else={1:if exprs=C body={1:command exprs=D}}; 1:command exprs=E}"},
 		{"if a then b = 1; else c = 2", "{1:if exprs=A body={1:assign name=B exprs=#1} else={1:assign name=C exprs=#2}}"},
-		{"if a then b; else = 1", "{1:if exprs=A body={1:command exprs=B}; 1:assign name=ELSE exprs=#1}"},
-		{"if a then b; else: c", "{1:if exprs=A body={1:command exprs=B}; 1:label name=ELSE; 1:command exprs=C}"},
 		{"if a then else = 1; else then = 1", "{1:if exprs=A body={1:assign name=ELSE exprs=#1} else={1:assign name=THEN exprs=#1}}"},
 		{"select; when a then b; end", "{1:select when=1:A {1:command exprs=B}}"},
 		{"select\nwhen a\nthen b\nwhen (then)\nthen\nc\nend", "{1:select when=2:A {3:command exprs=B} when=4:THEN {6:command exprs=C}}"},

@@ -20,34 +20,10 @@ func must(t *testing.T, src string) []api.Stmt {
 	return l
 }
 
-// P5.3 and P5.5: the text of every kind of statement.
-func TestPrint(t *testing.T) {
-	for _, c := range [][2]string{
-		{"", ""},
-		{"x:y:", "X:\nY:\n"},
-		{"a=", "A =\n"}, {"a.=b", "A. = B\n"}, {"a.b = (c=d)", "A.B = C = D\n"},
-		{"'x'   (y)z", "'x' Y || Z\n"}, {"(say 1)", "(SAY 1)\n"}, {"(say)", "(SAY)\n"}, {"(say(1))", "(SAY(1))\n"}, {"(a = b)", "(A = B)\n"}, {"(a) = b", "(A = B)\n"}, {"(a = b) = c", "(A = B = C)\n"}, {"(1 = b)", "(1 = B)\n"}, {"(1e+5 = b)", "(1E+5 = B)\n"}, {"(a. = b & c | d)", "(A. = B & C | D)\n"}, {"(end) 1 + 2", "(END 1 + 2)\n"}, {"(then)||1", "(THEN || 1)\n"}, {"(when) * -1 = 2", "(WHEN * -1 = 2)\n"},
-		{"'say' 1", "'say' 1\n"}, {"a == b", "A == B\n"}, {"a(b) = c", "A(B) = C\n"}, {"a b = c", "A B = C\n"}, {"(a & b) = c", "(A & B) = C\n"}, {"-a = b", "-A = B\n"}, {"-say", "-SAY\n"}, {"'a' = b", "'a' = B\n"}, {"sayit", "SAYIT\n"}, {"say.", "SAY.\n"}, {"(\\say 1)", "\\SAY 1\n"}, {"('say'(1))", "'say'(1)\n"}, {"(to) (forever) with", "TO FOREVER WITH\n"}, {"(say = 1) * 2", "(SAY = 1) * 2\n"},
-		{"address", "ADDRESS\n"}, {"address a", "ADDRESS 'A'\n"}, {"address ''", "ADDRESS ''\n"}, {"address \"it's\" (b)", "ADDRESS \"it's\" B\n"}, {"address a -1", "ADDRESS 'A' -1\n"}, {"address value (a)", "ADDRESS VALUE A\n"},
-		{"parse upper arg a", "ARG A\n"}, {"arg", "ARG\n"}, {"pull a,", "PULL A\n"}, {"pull a,;", "PULL A, ;\n"}, {"arg ,a", "ARG , A\n"}, {"arg ,;", "ARG , ;\n"}, {"arg ,,,a,,b ,c", "ARG , , , A, , B, C\n"},
-		{"call a", "CALL A\n"}, {"call 'A'", "CALL 'A'\n"}, {"call ''", "CALL ''\n"}, {"call a 1", "CALL A 1\n"}, {"call a(1)", "CALL A 1\n"}, {"call a ,;", "CALL A , ;\n"}, {"call a 1,;", "CALL A 1, ;\n"}, {"call a ,1", "CALL A , 1\n"}, {"call a ,,;", "CALL A , , ;\n"}, {"call a 1,,x,,;", "CALL A 1, , X, , ;\n"}, {"call a (b=c),d", "CALL A B = C, D\n"}, {"call 'on' error", "CALL 'on' ERROR\n"}, {"call value x", "CALL VALUE X\n"},
-		{"call on error", "CALL ON ERROR\n"}, {"call on halt name x", "CALL ON HALT NAME X\n"}, {"call off halt", "CALL OFF HALT\n"}, {"signal on syntax", "SIGNAL ON SYNTAX\n"}, {"signal on novalue name on", "SIGNAL ON NOVALUE NAME ON\n"}, {"signal off error", "SIGNAL OFF ERROR\n"},
-		{"signal a", "SIGNAL 'A'\n"}, {"signal ''", "SIGNAL ''\n"}, {"signal 'value'", "SIGNAL 'value'\n"}, {"signal value a||b", "SIGNAL VALUE A || B\n"},
-		{"do;end", "DO\nEND\n"}, {"do forever;end", "DO FOREVER\nEND\n"}, {"do 3;a;end", "DO 3\nA\nEND\n"}, {"do while x;end", "DO WHILE X\nEND\n"}, {"do forever until(x);end", "DO FOREVER UNTIL X\nEND\n"}, {"do a while b;end", "DO A WHILE B\nEND\n"},
-		{"do i=1;end i", "DO I = 1\nEND\n"}, {"do a.i=b for c by d to e until f;end", "DO A.I = B FOR C BY D TO E UNTIL F\nEND\n"}, {"do to = (to) to f(to) by (by)(to);end", "DO TO = (TO) TO F(TO) BY (BY) || (TO)\nEND\n"}, {"do i = 1 to 3 while (to);end", "DO I = 1 TO 3 WHILE (TO)\nEND\n"}, {"do i = (forever) = 1; end", "DO I = FOREVER = 1\nEND\n"},
-		{"do (to);end", "DO (TO)\nEND\n"}, {"do (while)=3;end", "DO (WHILE) = 3\nEND\n"}, {"do (a=b);end", "DO (A = B)\nEND\n"}, {"do (a)=b;end", "DO (A = B)\nEND\n"}, {"do (a = to);end", "DO (A = TO)\nEND\n"}, {"do (forever);end", "DO (FOREVER)\nEND\n"}, {"do (forever)||(to);end", "DO (FOREVER || TO)\nEND\n"}, {"do (forever(1));end", "DO (FOREVER(1))\nEND\n"}, {"do a (to(1)) f(to (by)) (to by);end", "DO A (TO(1)) F(TO BY) (TO BY)\nEND\n"}, {"do -(for);end", "DO -(FOR)\nEND\n"}, {"do a == b;end", "DO A == B\nEND\n"}, {"do 'forever';end", "DO 'forever'\nEND\n"}, {"do until (until) then;end", "DO UNTIL (UNTIL) THEN\nEND\n"}, {"do (say);end", "DO SAY\nEND\n"}, {"do until (a=b);end", "DO UNTIL A = B\nEND\n"}, {"do while forever;end", "DO WHILE FOREVER\nEND\n"},
-		{"drop a b.(c)(d.e)", "DROP A B. (C) (D.E)\n"}, {"procedure;procedure expose a (b)", "PROCEDURE\nPROCEDURE EXPOSE A (B)\n"},
-		{"exit;exit a", "EXIT\nEXIT A\n"}, {"return;return a", "RETURN\nRETURN A\n"}, {"say;say (a)(b)", "SAY\nSAY A || B\n"}, {"push;push a", "PUSH\nPUSH A\n"}, {"queue;queue a", "QUEUE\nQUEUE A\n"}, {"interpret (a)", "INTERPRET A\n"}, {"nop", "NOP\n"}, {"say (a = b)", "SAY A = B\n"}, {"say (say 1)", "SAY SAY 1\n"},
-		{"iterate;iterate a.b", "ITERATE\nITERATE A.B\n"}, {"leave;leave i", "LEAVE\nLEAVE I\n"},
-		{"if a then b", "IF A THEN\nB\n"}, {"if a then b;else c", "IF A THEN\nB\nELSE\nC\n"}, {"if (then) = f(then) then then = then", "IF (THEN) = F(THEN) THEN\nTHEN = THEN\n"}, {"if (to) (with) then b;else if c then d", "IF TO WITH THEN\nB\nELSE\nIF C THEN\nD\n"}, {"if a then b;else = 1", "IF A THEN\nB\nELSE = 1\n"}, {"if (then(1)) then;b", "IF (THEN(1)) THEN\nB\n"},
-		{"select;when a then b;when (then) then do;end;end", "SELECT\nWHEN A THEN\nB\nWHEN (THEN) THEN\nDO\nEND\nEND\n"}, {"select;when a then b;otherwise end", "SELECT\nWHEN A THEN\nB\nOTHERWISE\nEND\n"}, {"select;when a then b;otherwise c;end = 1;end", "SELECT\nWHEN A THEN\nB\nOTHERWISE\nC\nEND = 1\nEND\n"},
-		{"numeric digits;numeric digits a+1", "NUMERIC DIGITS\nNUMERIC DIGITS A + 1\n"}, {"numeric fuzz;numeric fuzz 1", "NUMERIC FUZZ\nNUMERIC FUZZ 1\n"}, {"numeric form;numeric form scientific;numeric form engineering", "NUMERIC FORM\nNUMERIC FORM SCIENTIFIC\nNUMERIC FORM ENGINEERING\n"},
-		{"parse arg a;parse linein;parse pull a;parse numeric a;parse source a", "PARSE ARG A\nPARSE LINEIN\nPARSE PULL A\nPARSE NUMERIC A\nPARSE SOURCE A\n"}, {"parse upper linein a", "PARSE UPPER LINEIN A\n"}, {"parse var a b", "PARSE VAR A B\n"}, {"parse upper var a. ,b", "PARSE UPPER VAR A. , B\n"}, {"parse value with", "PARSE VALUE WITH\n"}, {"parse value with a,;", "PARSE VALUE WITH A, ;\n"}, {"parse value (with) f(with) then with with", "PARSE VALUE (WITH) F(WITH) THEN WITH WITH\n"}, {"parse upper value 'a' with b", "PARSE UPPER VALUE 'a' WITH B\n"}, {"parse arg =(a) b", "PARSE ARG =(A) B\n"},
-		// ARG and PULL would be assignments here.
-		{"parse upper arg =(a) b", "PARSE UPPER ARG =(A) B\n"}, {"parse upper pull = (a),;", "PARSE UPPER PULL =(A), ;\n"}, {"parse upper arg =5 =(a)", "ARG 5 =(A)\n"}, {"parse upper arg '=' +(a)", "ARG '=' +(A)\n"},
-		{"trace;trace r;trace '?r';trace ''", "TRACE\nTRACE 'R'\nTRACE '?r'\nTRACE\n"},
-		{"say 'it''s';say '\"';say '''\"'; say '4142'x", "SAY \"it's\"\nSAY '\"'\nSAY '''\"'\nSAY 'AB'\n"},
-	} {
+// checkPrint checks the text of sources; and the head, if there is one statement.
+func checkPrint(t *testing.T, list [][2]string) {
+	t.Helper()
+	for _, c := range list {
 		l, code, _, e := syn.Parse(c[0])
 		text, e2 := syn.Print(l)
 		if e != api.OK || text != c[1] || e2 != api.OK {
@@ -60,6 +36,34 @@ func TestPrint(t *testing.T) {
 			}
 		}
 	}
+}
+
+// P5.3 and P5.5: the text of every kind of statement.
+func TestPrint(t *testing.T) {
+	checkPrint(t, [][2]string{
+		{"", ""},
+		{"x:y:", "X:\nY:\n"},
+		{"a=", "A =\n"}, {"a.=b", "A. = B\n"}, {"a.b = (c=d)", "A.B = C = D\n"},
+		{"'x'   (y)z", "'x' Y || Z\n"}, {"(say 1)", "(SAY 1)\n"}, {"(say)", "(SAY)\n"}, {"(say(1))", "(SAY(1))\n"}, {"(a = b)", "(A = B)\n"}, {"(a) = b", "(A = B)\n"}, {"(a = b) = c", "(A = B = C)\n"}, {"(1 = b)", "(1 = B)\n"}, {"(1e+5 = b)", "(1E+5 = B)\n"}, {"(a. = b & c | d)", "(A. = B & C | D)\n"}, {"(end) 1 + 2", "(END 1 + 2)\n"}, {"(then)||1", "(THEN || 1)\n"}, {"(when) * -1 = 2", "(WHEN * -1 = 2)\n"},
+		{"'say' 1", "'say' 1\n"}, {"a == b", "A == B\n"}, {"a(b) = c", "A(B) = C\n"}, {"a b = c", "A B = C\n"}, {"(a & b) = c", "(A & B) = C\n"}, {"-a = b", "-A = B\n"}, {"-say", "-SAY\n"}, {"'a' = b", "'a' = B\n"}, {"sayit", "SAYIT\n"}, {"say.", "SAY.\n"}, {"(\\say 1)", "\\SAY 1\n"}, {"('say'(1))", "'say'(1)\n"}, {"(to) (forever) with", "TO FOREVER WITH\n"}, {"(say = 1) * 2", "(SAY = 1) * 2\n"},
+		{"address", "ADDRESS\n"}, {"address a", "ADDRESS 'A'\n"}, {"address ''", "ADDRESS ''\n"}, {"address \"it's\" (b)", "ADDRESS \"it's\" B\n"}, {"address a -1", "ADDRESS 'A' -1\n"}, {"address value (a)", "ADDRESS VALUE A\n"},
+		{"parse upper arg a", "ARG A\n"}, {"arg", "ARG\n"}, {"pull a,", "PULL A\n"}, {"pull a,;", "PULL A, ;\n"}, {"arg ,a", "ARG , A\n"}, {"arg ,;", "ARG , ;\n"}, {"arg ,,,a,,b ,c", "ARG , , , A, , B, C\n"},
+		{"call a", "CALL A\n"}, {"call 'A'", "CALL 'A'\n"}, {"call ''", "CALL ''\n"}, {"call a 1", "CALL A 1\n"}, {"call a(1)", "CALL A 1\n"}, {"call a ,;", "CALL A , ;\n"}, {"call a 1,;", "CALL A 1, ;\n"}, {"call a ,1", "CALL A , 1\n"}, {"call a ,,;", "CALL A , , ;\n"}, {"call a 1,,x,,;", "CALL A 1, , X, , ;\n"}, {"call a (b=c),d", "CALL A B = C, D\n"}, {"call 'on' error", "CALL 'on' ERROR\n"}, {"call value x", "CALL VALUE X\n"},
+		{"call on error", "CALL ON ERROR\n"}, {"call on halt name x", "CALL ON HALT NAME X\n"}, {"call off halt", "CALL OFF HALT\n"}, {"signal on syntax", "SIGNAL ON SYNTAX\n"}, {"signal on novalue name on", "SIGNAL ON NOVALUE NAME ON\n"}, {"signal off error", "SIGNAL OFF ERROR\n"},
+		{"signal a", "SIGNAL 'A'\n"}, {"signal ''", "SIGNAL ''\n"}, {"signal 'value'", "SIGNAL 'value'\n"}, {"signal value a||b", "SIGNAL VALUE A || B\n"},
+		{"do;end", "DO\nEND\n"}, {"do forever;end", "DO FOREVER\nEND\n"}, {"do 3;a;end", "DO 3\nA\nEND\n"}, {"do while x;end", "DO WHILE X\nEND\n"}, {"do forever until(x);end", "DO FOREVER UNTIL X\nEND\n"}, {"do a while b;end", "DO A WHILE B\nEND\n"},
+		{"do i=1;end i", "DO I = 1\nEND\n"}, {"do a.i=b for c by d to e until f;end", "DO A.I = B FOR C BY D TO E UNTIL F\nEND\n"}, {"do to = (to) to f(to) by (by)(to);end", "DO TO = (TO) TO F(TO) BY (BY) || (TO)\nEND\n"}, {"do i = 1 to 3 while (to);end", "DO I = 1 TO 3 WHILE (TO)\nEND\n"}, {"do i = (forever) = 1; end", "DO I = FOREVER = 1\nEND\n"},
+		{"do (to);end", "DO (TO)\nEND\n"}, {"do (a=b);end", "DO (A = B)\nEND\n"}, {"do (a)=b;end", "DO (A = B)\nEND\n"}, {"do (a = to);end", "DO (A = TO)\nEND\n"}, {"do (forever);end", "DO (FOREVER)\nEND\n"}, {"do (forever)||(to);end", "DO (FOREVER || TO)\nEND\n"}, {"do (forever(1));end", "DO (FOREVER(1))\nEND\n"}, {"do a (to(1)) f(to (by)) (to by);end", "DO A (TO(1)) F(TO BY) (TO BY)\nEND\n"}, {"do -(for);end", "DO -(FOR)\nEND\n"}, {"do a == b;end", "DO A == B\nEND\n"}, {"do 'forever';end", "DO 'forever'\nEND\n"}, {"do until (until) then;end", "DO UNTIL (UNTIL) THEN\nEND\n"}, {"do (say);end", "DO SAY\nEND\n"}, {"do until (a=b);end", "DO UNTIL A = B\nEND\n"}, {"do while forever;end", "DO WHILE FOREVER\nEND\n"},
+		{"drop a b.(c)(d.e)", "DROP A B. (C) (D.E)\n"}, {"procedure;procedure expose a (b)", "PROCEDURE\nPROCEDURE EXPOSE A (B)\n"},
+		{"exit;exit a", "EXIT\nEXIT A\n"}, {"return;return a", "RETURN\nRETURN A\n"}, {"say;say (a)(b)", "SAY\nSAY A || B\n"}, {"push;push a", "PUSH\nPUSH A\n"}, {"queue;queue a", "QUEUE\nQUEUE A\n"}, {"interpret (a)", "INTERPRET A\n"}, {"nop", "NOP\n"}, {"say (a = b)", "SAY A = B\n"}, {"say (say 1)", "SAY SAY 1\n"},
+		{"iterate;iterate a.b", "ITERATE\nITERATE A.B\n"}, {"leave;leave i", "LEAVE\nLEAVE I\n"},
+		{"if a then b", "IF A THEN\nB\n"}, {"if a then b;else c", "IF A THEN\nB\nELSE\nC\n"}, {"if (then) = f(then) then then = then", "IF (THEN) = F(THEN) THEN\nTHEN = THEN\n"}, {"if (to) (with) then b;else if c then d", "IF TO WITH THEN\nB\nELSE\nIF C THEN\nD\n"}, {"if (then(1)) then;b", "IF (THEN(1)) THEN\nB\n"},
+		{"select;when a then b;when (then) then do;end;end", "SELECT\nWHEN A THEN\nB\nWHEN (THEN) THEN\nDO\nEND\nEND\n"}, {"select;when a then b;otherwise end", "SELECT\nWHEN A THEN\nB\nOTHERWISE\nEND\n"}, {"select;when a then b;otherwise c;end = 1;end", "SELECT\nWHEN A THEN\nB\nOTHERWISE\nC\nEND = 1\nEND\n"},
+		{"numeric digits;numeric digits a+1", "NUMERIC DIGITS\nNUMERIC DIGITS A + 1\n"}, {"numeric fuzz;numeric fuzz 1", "NUMERIC FUZZ\nNUMERIC FUZZ 1\n"}, {"numeric form;numeric form scientific;numeric form engineering", "NUMERIC FORM\nNUMERIC FORM SCIENTIFIC\nNUMERIC FORM ENGINEERING\n"},
+		{"parse arg a;parse linein;parse pull a;parse numeric a;parse source a", "PARSE ARG A\nPARSE LINEIN\nPARSE PULL A\nPARSE NUMERIC A\nPARSE SOURCE A\n"}, {"parse upper linein a", "PARSE UPPER LINEIN A\n"}, {"parse var a b", "PARSE VAR A B\n"}, {"parse upper var a. ,b", "PARSE UPPER VAR A. , B\n"}, {"parse value with", "PARSE VALUE WITH\n"}, {"parse value with a,;", "PARSE VALUE WITH A, ;\n"}, {"parse value (with) f(with) then with with", "PARSE VALUE (WITH) F(WITH) THEN WITH WITH\n"}, {"parse upper value 'a' with b", "PARSE UPPER VALUE 'a' WITH B\n"}, {"parse arg =(a) b", "PARSE ARG =(A) B\n"},
+		{"trace;trace r;trace '?r'", "TRACE\nTRACE 'R'\nTRACE '?r'\n"},
+		{"say 'it''s';say '\"';say '''\"'; say '4142'x", "SAY \"it's\"\nSAY '\"'\nSAY '''\"'\nSAY 'AB'\n"},
+	})
 }
 
 // P5.4: the text of expressions.

@@ -44,7 +44,7 @@ func (b *builder) statement(where place) api.Stmt {
 		b.selectWhen(&s, where)
 		return s
 	case api.StLabel:
-		s.Name = b.one("X", "Y1", "SAY", "ELSE", "1.5", "A.B")
+		s.Name = b.one("X", "Y1", "SAY", "WHEN", "1.5", "A.B")
 		b.word(s.Name)
 		b.maybe()
 		b.put(":")

@@ -63,7 +63,7 @@ func (b *builder) mayEnd() {
 }
 
 func (b *builder) simple() string {
-	return b.one("A", "B", "X", "I", "N1", "_A", "WHAT?", "TO", "BY", "WHILE", "THEN", "WITH", "FOREVER", "ELSE", "END", "SAY", "ON")
+	return b.one("A", "B", "X", "I", "N1", "_A", "WHAT?", "TO", "BY", "WHILE", "THEN", "WITH", "FOREVER", "OTHERWISE", "END", "SAY", "ON")
 }
 
 // variable returns a variable symbol.
